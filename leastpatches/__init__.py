@@ -1,0 +1,1 @@
+"""Columns and rows of two tables matched: the least patches between them."""
