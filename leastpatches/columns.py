@@ -36,6 +36,14 @@ def cost_of_columns(old, new, pairs):
     return RENAMED * renamed + MOVED * moved + LONE_COLUMN * lone
 
 
+def pairs_of_like_names(old, new):
+    pairs = []
+    for new_column, name in enumerate(new.names):
+        if name in old.names:
+            pairs.append((old.names.index(name), new_column))
+    return pairs
+
+
 def lone_columns(old, new, pairs):
     old_used = [old_column for old_column, new_column in pairs]
     new_used = [new_column for old_column, new_column in pairs]

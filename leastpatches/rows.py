@@ -1,11 +1,24 @@
-"""Matchings of rows beside one matching of columns: the least ones, counted and found by their place."""
+"""Matchings of rows beside one matching of columns: what they cost; the least ones, counted and found by place."""
 
-from leastpatches.columns import lone_columns
+from leastpatches.columns import lone_columns, pairs_from
 from leastpatches.tables import is_empty
 
 LONE_ROW = 3
 # More than any matching of rows costs: stands where there is none.
 BEYOND = 1000000
+
+
+def are_row_pairs(numbers, old_height, new_height):
+    if len(numbers) % 2 == 1:
+        return False
+    lowest_old = 0
+    lowest_new = 0
+    for old_row, new_row in pairs_from(numbers):
+        if not lowest_old <= old_row < old_height or not lowest_new <= new_row < new_height:
+            return False
+        lowest_old = old_row + 1
+        lowest_new = new_row + 1
+    return True
 
 
 def filled(row, columns):
@@ -73,14 +86,28 @@ class RowMatchings:
     def least_count(self):
         return self.free[0][0][1]
 
+    def lone_cost(self, pairs):
+        return LONE_ROW * (self.old_height + self.new_height - 2 * len(pairs))
+
+    def cell_cost(self, pairs):
+        return sum([self.costs[old_row][new_row] for old_row, new_row in pairs])
+
+    def ways_taken(self, old_row, new_row):
+        # Of the least matchings that free tells there, those in which the old row is in a pair. They come first.
+        return how_many(self.taken[old_row][new_row], self.free[old_row][new_row][0])
+
+    def ways_paired(self, old_row, new_row):
+        # Of the least matchings that taken tells there, those in which the two rows are a pair. They come first.
+        paired = raised(self.free[old_row + 1][new_row + 1], self.costs[old_row][new_row])
+        return how_many(paired, self.taken[old_row][new_row][0])
+
     def least_at(self, place):
         pairs = []
         left = place
         old_row = 0
         new_row = 0
         while old_row < self.old_height:
-            taken = self.taken[old_row][new_row]
-            ways = how_many(taken, self.free[old_row][new_row][0])
+            ways = self.ways_taken(old_row, new_row)
             if left < ways:
                 found = self.find_partner(old_row, new_row, left)
                 pairs.append((old_row, found[0]))
@@ -96,9 +123,22 @@ class RowMatchings:
         new_row = first_new_row
         left = place
         while True:
-            paired = raised(self.free[old_row + 1][new_row + 1], self.costs[old_row][new_row])
-            ways = how_many(paired, self.taken[old_row][new_row][0])
+            ways = self.ways_paired(old_row, new_row)
             if left < ways:
                 return (new_row, left)
             left -= ways
             new_row += 1
+
+    def place_of(self, pairs):
+        # The matching must be a least one: each step counts those that come ahead of it by what it does there.
+        partners = dict(pairs)
+        place = 0
+        new_row = 0
+        for old_row in range(self.old_height):
+            if old_row in partners:
+                partner = partners[old_row]
+                place += sum([self.ways_paired(old_row, earlier) for earlier in range(new_row, partner)])
+                new_row = partner + 1
+            else:
+                place += self.ways_taken(old_row, new_row)
+        return place

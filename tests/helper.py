@@ -56,6 +56,30 @@ def counts():
     return [5]
 
 
+def pair(old_column, new_column):
+    return [6, old_column, new_column]
+
+
+def surely():
+    return [7]
+
+
+def maybe():
+    return [8]
+
+
+def cost(column_pairs, row_pairs):
+    return [9] + listed(column_pairs) + listed(row_pairs)
+
+
+def rank(column_pairs, row_pairs):
+    return [10] + listed(column_pairs) + listed(row_pairs)
+
+
+def names():
+    return [11]
+
+
 def ask(*calls):
     numbers = answers([number for call in calls for number in call])
     split = []
@@ -68,8 +92,12 @@ def ask(*calls):
     return split
 
 
+def flat(pairs):
+    return [number for one in pairs for number in one]
+
+
 def told(pairs):
-    return [len(pairs)] + [number for pair in pairs for number in pair]
+    return [len(pairs)] + flat(pairs)
 
 
 def all_column_pairs(old_width, new_width):
@@ -155,26 +183,67 @@ class ByTrying:
         costs = list(zip(self.columns, self.column_costs, self.row_costs))
         return [min(cost + min(rows) for pairs, cost, rows in costs if len(pairs) == size) for size in sizes]
 
+    def pair(self, old_column, new_column):
+        with_it = []
+        without_it = []
+        for columns, cost_of_columns, row_costs in zip(self.columns, self.column_costs, self.row_costs):
+            if (old_column, new_column) in columns:
+                with_it += [cost_of_columns + row_cost for row_cost in row_costs]
+            else:
+                without_it += [cost_of_columns + row_cost for row_cost in row_costs]
+        return [min(with_it), min(without_it)]
+
+    def pairs_where(self, holds):
+        found = []
+        for new_column in range(len(self.new_names)):
+            for old_column in range(len(self.old_names)):
+                if holds([(old_column, new_column) in columns for columns, rows in self.matchings]):
+                    found.append((old_column, new_column))
+        return told(found)
+
+    def surely(self):
+        return self.pairs_where(all)
+
+    def maybe(self):
+        return self.pairs_where(any)
+
+    def cost(self, columns, rows):
+        lone_rows = len(self.old_rows) - len(rows) + len(self.new_rows) - len(rows)
+        cells = sum(self.cost_of_row_pair(old, new, columns) for old, new in rows)
+        return [self.cost_of_columns(columns), 3 * lone_rows, cells]
+
+    def rank(self, columns, rows):
+        if (columns, rows) not in self.matchings:
+            return [0]
+        return [1, self.matchings.index((columns, rows))]
+
+    def names(self):
+        columns = []
+        for new_column, text in enumerate(self.new_names):
+            columns += [(old_column, new_column) for old_column, one in enumerate(self.old_names) if one == text]
+        costs = self.best(columns)[:2]
+        return costs + [sum(costs) - self.cheapest]
+
     def side(self, which, columns, rows):
-        names, cells = (self.old_names, self.old_rows) if which == 0 else (self.new_names, self.new_rows)
-        numbers = [len(names)] + [number for text in names for number in name(text)] + [len(cells)]
-        lone = [row for row in range(len(cells)) if row not in [pair[which] for pair in rows]]
+        texts, cells = (self.old_names, self.old_rows) if which == 0 else (self.new_names, self.new_rows)
+        numbers = [len(texts)] + [number for text in texts for number in name(text)] + [len(cells)]
+        lone = [row for row in range(len(cells)) if row not in [one[which] for one in rows]]
         numbers.append(len(lone))
         for row in lone:
             numbers += [row] + [number for value in cells[row] for number in cell(value)]
         shown = []
-        for pair in rows:
-            for column in range(len(names)):
-                value = cells[pair[which]][column]
+        for rows_pair in rows:
+            for column in range(len(texts)):
+                value = cells[rows_pair[which]][column]
                 partners = [columns_pair for columns_pair in columns if columns_pair[which] == column]
                 if partners:
                     old, new = partners[0]
-                    is_told = self.old_rows[pair[0]][old] != self.new_rows[pair[1]][new]
+                    is_told = self.old_rows[rows_pair[0]][old] != self.new_rows[rows_pair[1]][new]
                 else:
                     is_told = value is not None
                 if is_told:
-                    shown.append([pair[which], column] + cell(value))
-        return numbers + [len(shown)] + [number for one in shown for number in one]
+                    shown.append([rows_pair[which], column] + cell(value))
+        return numbers + told(shown)
 
     def patch(self, place):
         if place >= len(self.matchings):

@@ -3,7 +3,8 @@
 import random
 import unittest
 
-from tests.helper import ByTrying, ask, best, counts, kth, least, patch, table, tables
+from tests.helper import ByTrying, ask, best, cost, counts, flat, kth, least, maybe, names, pair, patch, rank, surely
+from tests.helper import table, tables
 
 CELLS = [None, 1, 2, "1", "x"]
 
@@ -31,18 +32,40 @@ class ByTryingAll(unittest.TestCase):
         last = len(tried.matchings) - 1
         places = sorted({0, last // 2, last, last + 1, chance.randint(0, last)})
         columns = chance.sample(tried.columns, min(5, len(tried.columns)))
-        calls = [least(), counts()]
-        expected = [tried.least(), tried.counts()]
+        expected = [(least(), tried.least()), (counts(), tried.counts())]
         for place in places:
-            calls += [kth(place), patch(place)]
-            expected += [tried.kth(place), tried.patch(place)]
+            expected += [(kth(place), tried.kth(place)), (patch(place), tried.patch(place))]
         for pairs in columns:
-            calls.append(best([number for pair in pairs for number in pair]))
-            expected.append(tried.best(pairs))
-        told = ask(tables(table(*old), table(*new)), *calls)
-        self.assertEqual(told[0], [len(tried.columns)], (old, new))
-        for call, answer, right in zip(calls, told[1:], expected, strict=True):
-            self.assertEqual(answer, right, (old, new, call))
+            expected.append((best(flat(pairs)), tried.best(pairs)))
+        self.compare_calls(old, new, tried, expected)
+        self.compare_pairs(old, new, tried)
+        self.compare_matchings(old, new, tried, chance)
+
+    def compare_pairs(self, old, new, tried):
+        expected = [(surely(), tried.surely()), (maybe(), tried.maybe()), (names(), tried.names())]
+        for old_column in range(len(old[0])):
+            for new_column in range(len(new[0])):
+                expected.append((pair(old_column, new_column), tried.pair(old_column, new_column)))
+        self.compare_calls(old, new, tried, expected)
+
+    def compare_matchings(self, old, new, tried, chance):
+        matchings = chance.sample(tried.matchings, min(8, len(tried.matchings)))
+        # Beside the columns of least matchings all matchings of rows, beside all columns some.
+        matchings += [(columns, chance.choice(tried.rows)) for columns, rows in matchings]
+        matchings += [(chance.choice(tried.columns), chance.choice(tried.rows)) for turn in range(6)]
+        expected = []
+        for columns, rows in matchings:
+            expected.append((cost(flat(columns), flat(rows)), tried.cost(columns, rows)))
+            expected.append((rank(flat(columns), flat(rows)), tried.rank(columns, rows)))
+        self.compare_calls(old, new, tried, expected)
+
+    def compare_calls(self, old, new, tried, expected):
+        for start in range(0, len(expected), 19):
+            part = expected[start:start + 19]
+            told = ask(tables(table(*old), table(*new)), *[call for call, right in part])
+            self.assertEqual(told[0], [len(tried.columns)], (old, new))
+            for (call, right), answer in zip(part, told[1:], strict=True):
+                self.assertEqual(answer, right, (old, new, call))
 
     def test_unlike_tables(self):
         chance = random.Random(1)
@@ -62,9 +85,12 @@ class ByTryingAll(unittest.TestCase):
             old = (old[0], [[None] * len(old[0]) for row in range(chance.randint(0, 3))])
             new = (["c", "d", "e"], [[chance.choice([None, None, 1]) for column in range(3)] for row in range(2)])
             tried = ByTrying(old, new)
+            expected = []
             for place in range(len(tried.matchings) + 1):
-                told = ask(tables(table(*old), table(*new)), kth(place), patch(place))
-                self.assertEqual(told[1:], [tried.kth(place), tried.patch(place)])
+                expected += [(kth(place), tried.kth(place)), (patch(place), tried.patch(place))]
+            for place, (columns, rows) in enumerate(tried.matchings):
+                expected.append((rank(flat(columns), flat(rows)), [1, place]))
+            self.compare_calls(old, new, tried, expected)
 
     def test_largest(self):
         chance = random.Random(4)

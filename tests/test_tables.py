@@ -2,7 +2,8 @@
 
 import unittest
 
-from tests.helper import ask, best, cell, counts, kth, least, name, patch, table, tables
+from tests.helper import ask, best, cell, cost, counts, kth, least, maybe, name, names, pair, patch, rank, surely
+from tests.helper import table, tables
 
 ONE = table(["a"], [])
 HUGE = 10 ** 18
@@ -111,18 +112,25 @@ class TooLarge(unittest.TestCase):
 class FromNowOn(unittest.TestCase):
     def test_ahead_of_any_tables(self):
         asked = [least(), kth(0), patch(0), best([]), counts()]
-        wrong = [kth(-1), patch(-1), best([1]), best([9, 9])]
-        self.assertEqual(ask(*(asked + wrong)), [[-8]] * 9)
+        asked += [pair(0, 0), surely(), maybe(), cost([], []), rank([], []), names()]
+        wrong = [kth(-1), patch(-1), best([1]), best([9, 9]), pair(-1, 0), pair(0, HUGE), cost([1], []), cost([], [1])]
+        wrong += [rank([9, 9], []), rank([], [9, 9]), rank([1], [1])]
+        self.assertEqual(ask(*asked), [[-8]] * 11)
+        self.assertEqual(ask(*wrong), [[-8]] * 11)
 
     def test_refused_tables_are_none(self):
         wide = table("abcde", [])
         self.assertEqual(ask(tables([], []), least(), tables(wide, wide), counts()), [[-1], [-8], [-6], [-8]])
+        asked = [pair(0, 0), surely(), maybe(), cost([], []), rank([], []), names()]
+        for refused in [tables([], []), tables(wide, ONE), tables(ONE, wide)]:
+            self.assertEqual(ask(refused, *asked)[1:], [[-8]] * 6)
 
     def test_refused_tables_change_nothing(self):
         old = table("ab", [[1, "x"], [2, "y"]])
         new = table("ca", [["x", 1], ["z", 2]])
         other = table("q", [[5]])
-        asked = [least(), kth(0), patch(0), best([0, 1]), counts()]
+        asked = [least(), kth(0), patch(0), best([0, 1]), counts(), pair(0, 1), surely(), maybe(), names()]
+        asked += [cost([1, 0], [0, 1]), rank([1, 0, 0, 1], [0, 0, 1, 1])]
         whole = ask(tables(old, new), *asked)[1:]
         for refused in [tables(other, []), tables([], other), tables(other, table("abcde", []))]:
             told = ask(tables(old, new), refused, *asked)
@@ -136,6 +144,15 @@ class FromNowOn(unittest.TestCase):
         self.assertEqual(told[1], [0, 1, 1, 1, 0, 0, 1, 0, 0])
         self.assertEqual(told[3], [3, 1, 1, 1, 0, 0, 1, 0, 0])
         self.assertEqual(told[5], told[1])
+
+    def test_later_tables_stand_for_earlier_ones_in_each_call(self):
+        one = table("ab", [[1, 2], [3, 4]])
+        two = table("bca", [[2, 1, 7]])
+        asked = [pair(1, 0), surely(), maybe(), cost([0, 0], [1, 0]), rank([1, 0, 0, 2], [0, 0]), names()]
+        told = ask(tables(one, one), *(asked + [tables(one, two)] + asked))
+        self.assertEqual(told[1:7], ask(tables(one, one), *asked)[1:])
+        self.assertEqual(told[8:], ask(tables(one, two), *asked)[1:])
+        self.assertNotEqual(told[1:7], told[8:])
 
 
 if __name__ == "__main__":
